@@ -81,7 +81,8 @@ func (c *checker) global(n api.Node) {
 	t := c.typ(n.Kids[0])
 	value := t
 	if n.Kind == api.NGlobal {
-		value = c.expr(n.Kids[1])
+		// The number is no expression: its type counts here, but is not kept.
+		value = c.value(n.Kids[1], c.begin(), nil)
 	}
 	c.fresh(n.Text, at)
 	ask(isNumber(t) && types.Same(t, value), api.ErrKind, at)

@@ -49,11 +49,16 @@ func reference(n api.Node) ([]string, api.Fault, int) {
 		if e := p.fault(); e != api.OK {
 			return nil, api.Fault{Code: e, At: p.at}, p.Kind
 		}
-		if p.Kind >= api.NNumber {
+		if p.isExpression() {
 			texts[p.at] = types.Text(p.typ())
 		}
 	}
 	return texts, api.Fault{}, 0
+}
+
+// isExpression says whether a node has a type's text: a global's number is as a number of an expression, but none itself.
+func (p *spot) isExpression() bool {
+	return p.Kind >= api.NNumber && p.up.Kind != api.NGlobal
 }
 
 // above is the nearest node of a kind around one, or none.

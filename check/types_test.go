@@ -24,8 +24,12 @@ func TestTypes(t *testing.T) {
 	for text, want := range map[string]string{
 		"":                        "-",
 		"int f(int x){return x;}": "- - - - - - - int",
-		"int a=1;":                "- - - int",
-		"static long a=-1L;extern int b;extern long c(int a,...);": "- - - long - - - - - -",
+		"int a=1;":                "- - - -",
+		"long a=1L;":              "- - - -",
+		"static int a=-1;":        "- - - -",
+		"static long a=-1L;extern int b;extern long c(int a,...);": "- - - - - - - - - -",
+		"int a=0;int f(){return a;}long b=2L;":                     "- - - - - - - - int - - -",
+		"long a=-1L;int f(){long a=-1L;a=1L;return 1;}":            "- - - - - - - - - long long - long long - int",
 		"struct s{int a;}":                                  "- - - -",
 		"int f(){return f();}":                              "- - - - - int fn()int",
 		"int f(long a){f(a);put(a);return 1;}":              "- - - - - - - int fn(long)int long - long - int",
@@ -93,15 +97,15 @@ func TestExpressionTypes(t *testing.T) {
 		"long g=h;g=g;":          {"long", "long", "long"},
 		"int w=1;q=&w;":          {"int", w, w},
 	} {
-		// Ahead are the numbers of g and h, behind is the one that is returned.
-		want = slices.Concat([]string{"int", "long"}, want, []string{"int"})
+		// Behind is the one that is returned; the numbers of g and h, ahead, are no expressions.
+		want = append(want, "int")
 		if got := told(t, in(text)); !slices.Equal(got, want) {
 			t.Errorf("%q: %q", text, got)
 		}
 	}
 }
 
-// G7: nodes that are no expressions have none, and all others have one.
+// G7: nodes that are no expressions (a global's number among them) have none, and all others have one.
 func TestWhichHaveTypes(t *testing.T) {
 	texts := []string{
 		"int f(int a,...){put(count);put(extra(0));return 0;}",
@@ -111,10 +115,11 @@ func TestWhichHaveTypes(t *testing.T) {
 	for _, text := range texts {
 		n, _ := check.Check(text)
 		l, _ := check.Types(text)
-		for at, n := range all(n) {
-			met[n.Kind]++
-			if (l[at] != "") != (n.Kind >= api.NNumber) {
-				t.Errorf("%q: node %d: %q", text, at, l[at])
+		count := 0
+		for _, p := range order(spots(n, nil, 0, &count)) {
+			met[p.Kind]++
+			if (l[p.at] != "") != p.isExpression() {
+				t.Errorf("%q: node %d: %q", text, p.at, l[p.at])
 			}
 		}
 	}
