@@ -43,6 +43,10 @@ func agrees(t *testing.T, text string) (kind int, code api.Errno) {
 	if l, f := check.Types(text); f != wrong || !slices.Equal(l, want) {
 		t.Errorf("%q: %v %q, not %q", text, f, l, want)
 	}
+	want = declared(n)
+	if l, f := check.Declared(text); f != wrong || !slices.Equal(l, want) {
+		t.Errorf("%q: %v %q, not %q", text, f, l, want)
+	}
 	return 0, api.OK
 }
 

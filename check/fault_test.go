@@ -61,13 +61,16 @@ func same(a, b api.Node) bool {
 	return true
 }
 
-// fails holds that both calls tell just this fault of a text.
+// fails holds that all calls tell just this fault of a text.
 func fails(t *testing.T, text string, want api.Fault) {
 	t.Helper()
 	if n, f := check.Check(text); f != want || !isZero(n) {
 		t.Errorf("%.300q: %v, not %v", text, f, want)
 	}
 	if l, f := check.Types(text); f != want || len(l) != 0 {
+		t.Errorf("%.300q: %v, not %v", text, f, want)
+	}
+	if l, f := check.Declared(text); f != want || len(l) != 0 {
 		t.Errorf("%.300q: %v, not %v", text, f, want)
 	}
 }

@@ -56,6 +56,16 @@ func reference(n api.Node) ([]string, api.Fault, int) {
 	return texts, api.Fault{}, 0
 }
 
+// declared tells the types of a unit's declarations.
+func declared(n api.Node) []string {
+	count := 0
+	var l []string
+	for _, p := range spots(n, nil, 0, &count).kids {
+		l = append(l, types.Text(p.typ()))
+	}
+	return l
+}
+
 // isExpression says whether a node has a type's text: a global's number is as a number of an expression, but none itself.
 func (p *spot) isExpression() bool {
 	return p.Kind >= api.NNumber && p.up.Kind != api.NGlobal

@@ -48,6 +48,24 @@ func TestTypes(t *testing.T) {
 	}
 }
 
+// G2, G3: the types of declarations, in order.
+func TestDeclaredTypes(t *testing.T) {
+	for text, want := range map[string][]string{
+		"":         nil,
+		"int a=1;": {"int"},
+		"long a=1L;static long b=-1L;extern int c;":                                            {"long", "long", "int"},
+		"extern int f();int g(){return 1;}":                                                    {"fn()int", "fn()int"},
+		"static int f(int a,...){return 1;}extern long g(...);int h(fn(int)long a){return 1;}": {"fn(int,...)int", "fn(...)long", "fn(fn(int)long)int"},
+		"struct s{int a;long b;}struct t{s c;}extern t f(s a);int s=1;int t(){return 1;}": {
+			"struct s{int a;long b;}", "struct t{struct s{int a;long b;} c;}", "fn(struct s{int a;long b;})struct t{struct s{int a;long b;} c;}", "int", "fn()int",
+		},
+	} {
+		if l, f := check.Declared(text); f != (api.Fault{}) || !slices.Equal(l, want) {
+			t.Errorf("%q: %q %v", text, l, f)
+		}
+	}
+}
+
 // G7: the type of each kind of expression, of what it has below, from the left.
 func TestExpressionTypes(t *testing.T) {
 	const (
