@@ -73,6 +73,9 @@ func fails(t *testing.T, text string, want api.Fault) {
 	if l, f := check.Declared(text); f != want || len(l) != 0 {
 		t.Errorf("%.300q: %v, not %v", text, f, want)
 	}
+	if n, l, f := check.Unit(text); f != want || len(l) != 0 || !isZero(n) {
+		t.Errorf("%.300q: %v, not %v", text, f, want)
+	}
 }
 
 // may holds that a text's unit may be.

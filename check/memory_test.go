@@ -59,3 +59,34 @@ func TestNewMemory(t *testing.T) {
 		t.Error(l, m)
 	}
 }
+
+// lists counts the fields' names and the parts of a type, by where they stand.
+func lists(t api.Type, seen map[unsafe.Pointer]int) {
+	for at := range t.Names {
+		seen[unsafe.Pointer(&t.Names[at])]++
+	}
+	for at, part := range t.Parts {
+		seen[unsafe.Pointer(&t.Parts[at])]++
+		lists(part, seen)
+	}
+}
+
+// P3: no two types of declarations share memory, though one may be a part of many.
+func TestTypesAreNewMemory(t *testing.T) {
+	const text = "struct s{int a;long b;}struct o{s a;s b;}extern o f(o a,s b);o g(o a,s b){return f(a,a.a);}int h(fn(s)s q){return 1;}"
+	seen := map[unsafe.Pointer]int{}
+	for range 2 {
+		_, l, _ := check.Unit(text)
+		if len(l) != 5 {
+			t.Fatal(l)
+		}
+		for _, d := range l {
+			lists(d, seen)
+		}
+	}
+	for _, times := range seen {
+		if times > 1 {
+			t.Fatal("a list is shared")
+		}
+	}
+}

@@ -7,6 +7,7 @@ import (
 
 	"scarfjoint/api"
 	"scarfjoint/check"
+	"scarfjoint/types"
 )
 
 // told tells the types of a text's nodes, those that are "" left out.
@@ -62,6 +63,14 @@ func TestDeclaredTypes(t *testing.T) {
 	} {
 		if l, f := check.Declared(text); f != (api.Fault{}) || !slices.Equal(l, want) {
 			t.Errorf("%q: %q %v", text, l, f)
+		}
+		n, l, f := check.Unit(text)
+		var texts []string
+		for _, d := range l {
+			texts = append(texts, types.Text(d))
+		}
+		if m, _ := check.Check(text); f != (api.Fault{}) || !same(n, m) || !slices.Equal(texts, want) {
+			t.Errorf("%q: %q %v", text, texts, f)
 		}
 	}
 }

@@ -68,6 +68,9 @@ func checkMay(t *testing.T, name string, x api.Type, want bool) {
 	if (types.Text(x) != "") != want {
 		t.Errorf("%.60q: Text: %.60q", name, types.Text(x))
 	}
+	if (types.Clone(x).Kind != 0) != want || types.Text(types.Clone(x)) != types.Text(x) {
+		t.Errorf("%.60q: Clone: %.60q", name, types.Text(types.Clone(x)))
+	}
 	if !want && (types.Even(x) || len(types.Places(x)) != 0) {
 		t.Errorf("%.60q: Even, Places: %v %v", name, types.Even(x), types.Places(x))
 	}
