@@ -28,7 +28,8 @@ func (c *checker) called(n api.Node) api.Type {
 	if _, hidden := c.local(n.Text); n.Kind != api.NName || hidden || !m.function {
 		return c.expr(n)
 	}
-	c.known[c.begin()] = m.Type
+	at := c.begin()
+	c.known[at] = m.Type
 	return m.Type
 }
 

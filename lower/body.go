@@ -90,7 +90,8 @@ func (m *maker) order(o api.Three) int {
 // made is a register of which an order makes the word.
 func (m *maker) made(o api.Three) int {
 	o.D = m.take(1)
-	return m.Code[m.order(o)].D[0]
+	m.order(o)
+	return o.D[0]
 }
 
 // copied is another register with a register's word.
