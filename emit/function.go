@@ -23,10 +23,11 @@ type maker struct {
 func (u *unit) function(number int, b api.Body) {
 	tails, _ := tail.Of(b)
 	m := &maker{unit: u, frame: frameOf(b, tails), number: number, first: len(u.Code)}
-	m.enter(b)
+	made := m.enter(b)
 	for at, o := range b.Code {
 		m.start()
 		switch {
+		case at < made:
 		case slices.Contains(tails, at):
 			m.lastCall(o)
 		case o.Op == api.TReturn:
@@ -65,26 +66,45 @@ func (m *maker) lead(i api.Instr, order int) {
 	m.about(i, m.number, order)
 }
 
-// enter makes the frame, and brings there what the function was given.
-func (m *maker) enter(b api.Body) {
+// enter makes the frame, and brings there what the function was given, and is live at first. Where a call comes first, what it does not read waits till it has come back: for to bring all of it and then to hand words on would be more steps than one order may take (Q2). It tells how many orders are made already.
+func (m *maker) enter(b api.Body) int {
 	m.grow(-m.size)
 	for at, l := range m.kept {
 		m.move(l, m.waiting[at])
 	}
 	all, _ := live.Of(b)
-	// Registers that are not live at first may lie together with others: they are not written.
-	isLive := func(register int) bool {
-		_, is := slices.BinarySearch(all[0], register)
-		return is
-	}
 	params := paramsOf(b.Type)
-	m.arrive(params, isLive)
-	for at, words := range params {
-		if m.given.Copied[at] {
-			m.unpack(m.copies[at], words, isLive)
+	m.arrive(params, all[0])
+	now, later := split(all[0], b.Code[0])
+	m.bring(params, now)
+	if len(later) == 0 {
+		return 0
+	}
+	m.call(b.Code[0])
+	m.bring(params, later)
+	if !slices.ContainsFunc(b.Code, leadsToFirst) {
+		return 1
+	}
+	// Who comes to the call again has all that was brought, and has changed it.
+	m.lead(api.Instr{Op: api.IJump}, 1)
+	return 0
+}
+
+// split tells which registers of those that are live at first may not wait till the first order is done, and which may. Those that a call does not read are live behind it: so it does not write them, and none of them lies where its result comes back.
+func split(live []int, first api.Three) (now, later []int) {
+	for _, register := range live {
+		if isCall(first) && !slices.Contains(first.S, register) {
+			later = append(later, register)
+		} else {
+			now = append(now, register)
 		}
 	}
-	m.clear(all[0], len(slices.Concat(params...)))
+	return now, later
+}
+
+// leadsToFirst says whether an order leads to the first one.
+func leadsToFirst(o api.Three) bool {
+	return (o.Op == api.TJump || o.Op == api.TZero) && o.N == 0
 }
 
 // paramsOf gives of each parameter of a function's type the registers of its words.
@@ -102,49 +122,69 @@ func paramsOf(t api.Type) [][]int {
 	return l
 }
 
-// arrive brings the words that the function was given to their places; of a parameter that is copied the address alone.
-func (m *maker) arrive(params [][]int, isLive func(int) bool) {
+// arrive brings the words that the function was given to their places, if they are live; of a parameter that is copied the address alone.
+func (m *maker) arrive(params [][]int, live []int) {
 	var from, to []api.Loc
-	bring := func(word, place api.Loc) {
+	take := func(word, place api.Loc) {
 		from, to = append(from, m.behind(word)), append(to, place)
 	}
 	if m.given.Result >= 0 {
-		bring(api.Loc{N: m.given.Result}, m.result)
+		take(api.Loc{N: m.given.Result}, m.result)
 	}
 	if m.given.Count >= 0 {
-		bring(api.Loc{N: m.given.Count}, m.count)
+		take(api.Loc{N: m.given.Count}, m.count)
 	}
 	for at, words := range params {
 		if m.given.Copied[at] {
-			bring(m.given.Params[at][0], m.copies[at])
+			take(m.given.Params[at][0], m.copies[at])
 			continue
 		}
 		for i, register := range words {
-			if isLive(register) {
-				bring(m.given.Params[at][i], m.lies[register])
+			if has(live, register) {
+				take(m.given.Params[at][i], m.lies[register])
 			}
 		}
 	}
 	m.moveAll(from, to)
 }
 
-// unpack brings the words of a copy to their places.
-func (m *maker) unpack(address api.Loc, words []int, isLive func(int) bool) {
+// has says whether a register is one of a rising row. Those that are not live at first may lie together with others: they are not written.
+func has(registers []int, register int) bool {
+	_, is := slices.BinarySearch(registers, register)
+	return is
+}
+
+// bring gives registers of a rising row their words, but for those that came with what arrived: from copies, or 0.
+func (m *maker) bring(params [][]int, registers []int) {
+	for at, words := range params {
+		if m.given.Copied[at] {
+			m.unpack(m.copies[at], words, registers)
+		}
+	}
+	m.clear(registers, len(slices.Concat(params...)))
+}
+
+// unpack brings those words of a copy that are asked for to their places.
+func (m *maker) unpack(address api.Loc, words, registers []int) {
+	is := func(register int) bool { return has(registers, register) }
+	if !slices.ContainsFunc(words, is) {
+		return
+	}
 	m.move(address, two)
 	for at, register := range words {
-		if isLive(register) {
+		if is(register) {
 			m.made(register, api.Instr{Op: api.ILoad, B: two.N, Imm: at})
 		}
 	}
 }
 
-// clear makes registers 0 that are live at first, and are no parameter's: those behind a number.
-func (m *maker) clear(live []int, behind int) {
-	at, _ := slices.BinarySearch(live, behind)
-	if at < len(live) {
+// clear makes registers of a rising row 0 that are no parameter's: those from a number on.
+func (m *maker) clear(registers []int, from int) {
+	at, _ := slices.BinarySearch(registers, from)
+	if at < len(registers) {
 		m.constant(tmp.N, 0)
 	}
-	for _, register := range live[at:] {
+	for _, register := range registers[at:] {
 		m.move(tmp, m.lies[register])
 	}
 }
