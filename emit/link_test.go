@@ -9,7 +9,7 @@ import (
 	"scarfjoint/types"
 )
 
-// Packages object and link are not here yet: what chapters 17 and 18 say is written here once more, as far as objects that emit makes need it.
+// What chapters 17 and 18 say is written here once more, as far as objects that emit makes need it.
 
 // amissObject tells why an object may not be (R1); "" of one that may.
 func amissObject(o api.Object) string {
