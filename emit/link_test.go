@@ -1,10 +1,12 @@
 package emit_test
 
 import (
+	"slices"
 	"testing"
 
 	"scarfjoint/api"
 	"scarfjoint/code"
+	"scarfjoint/link"
 	"scarfjoint/machine"
 	"scarfjoint/types"
 )
@@ -98,8 +100,25 @@ func open(l []api.Object) map[string]place {
 	return found
 }
 
-// linked makes an image of objects (S2), and the ranges of its functions (S3); false, if it may not be (C1).
+// linked is the image that Link makes of objects, and the ranges of its functions; false, if it may not be (C1). It is held against what is put together here.
 func linked(t *testing.T, l []api.Object, memory int) (api.Image, []api.Range, bool) {
+	t.Helper()
+	image, ranges, ok := together(t, l, memory)
+	got, gotRanges, trouble := link.Link(l, memory)
+	if !ok {
+		if trouble != (api.Trouble{Code: api.ErrSize, At: 1}) {
+			t.Fatal("an image that may not be: ", trouble)
+		}
+		return api.Image{}, nil, false
+	}
+	if trouble != (api.Trouble{}) || !slices.Equal(got.Code, image.Code) || !slices.Equal(got.Data, image.Data) || got.Memory != memory || !slices.Equal(gotRanges, ranges) {
+		t.Fatal("another image: ", trouble, told(got), told(image))
+	}
+	return got, gotRanges, true
+}
+
+// together makes an image of objects (S2), and the ranges of its functions (S3); false, if it may not be (C1).
+func together(t *testing.T, l []api.Object, memory int) (api.Image, []api.Range, bool) {
 	t.Helper()
 	image := api.Image{Code: []uint32{0, 0}, Memory: memory}
 	var ranges []api.Range
